@@ -1,0 +1,67 @@
+package checks
+
+import (
+	"errors"
+	"testing"
+
+	"redraft/api"
+)
+
+// DOC.md, 'Words': the limits.
+func TestLimits(t *testing.T) {
+	for _, c := range []struct {
+		name      string
+		got, want int
+	}{
+		{"MaxPlace", api.MaxPlace, 1048576}, {"MaxRanges", api.MaxRanges, 32768}, {"MaxText", api.MaxText, 256}, {"MaxHid", api.MaxHid, 1048576},
+		{"MaxClients", api.MaxClients, 8}, {"MaxCells", api.MaxCells, 4096}, {"MaxOps", api.MaxOps, 1024}, {"MaxPayload", api.MaxPayload, 131072},
+		{"Width", api.Width, 64}, {"Resend", api.Resend, 3}, {"Poll", api.Poll, 4}, {"MaxFlight", api.MaxFlight, 1048576},
+		{"MaxScript", api.MaxScript, 1048576}, {"MaxSteps", api.MaxSteps, 16384}, {"MaxCols", api.MaxCols, 1024}, {"MaxRows", api.MaxRows, 1024},
+		{"Tab", api.Tab, 4}, {"MaxMarks", api.MaxMarks, 256}, {"MaxName", api.MaxName, 32}, {"MaxPattern", api.MaxPattern, 256},
+		{"MaxClip", api.MaxClip, 4096}, {"MaxDiff", api.MaxDiff, 2048},
+	} {
+		if c.got != c.want {
+			t.Errorf("%s = %d, want %d", c.name, c.got, c.want)
+		}
+	}
+}
+
+// DOC.md, 'Words', and chapter 1, 'Errors': the numbers.
+func TestErrorNumbers(t *testing.T) {
+	for _, c := range []struct {
+		got  api.Errno
+		want int
+	}{
+		{api.OK, 0}, {api.ErrOther, 1}, {api.ErrLimits, 2}, {api.ErrHandle, 3},
+		{api.ErrUtf8, 10}, {api.ErrRune, 11}, {api.ErrPlace, 12}, {api.ErrQuote, 13}, {api.ErrWalk, 16},
+	} {
+		if int(c.got) != c.want {
+			t.Errorf("error %d, want %d", c.got, c.want)
+		}
+	}
+}
+
+// DOC.md, 'Words': what Errno, Fault and Code answer.
+func TestErrors(t *testing.T) {
+	if got := api.ErrPlace.Error(); got != "redraft: error 12" {
+		t.Errorf("Error() = %q", got)
+	}
+	inner := &api.Fault{Call: "Append", At: 3, Err: api.ErrWalk}
+	outer := &api.Fault{Call: "Insert", At: 0, Err: inner}
+	if got := outer.Error(); got != "Insert at 0: Append at 3: redraft: error 16" {
+		t.Errorf("Error() = %q", got)
+	}
+	if outer.Unwrap() != error(inner) || !errors.Is(outer, api.ErrWalk) {
+		t.Errorf("Unwrap does not reach what lies inside")
+	}
+	for _, c := range []struct {
+		err  error
+		want api.Errno
+	}{
+		{nil, api.OK}, {api.ErrRune, api.ErrRune}, {outer, api.ErrWalk}, {errors.New("x"), api.ErrOther}, {&api.Fault{Err: errors.New("x")}, api.ErrOther},
+	} {
+		if got := api.Code(c.err); got != c.want {
+			t.Errorf("Code(%v) = %d, want %d", c.err, got, c.want)
+		}
+	}
+}
