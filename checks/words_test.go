@@ -26,7 +26,7 @@ func TestLimits(t *testing.T) {
 	}
 }
 
-// DOC.md, 'Words', and chapter 1, 'Errors': the numbers.
+// DOC.md, 'Words', and the chapters' lists of errors, as far as the layers are built: the numbers.
 func TestErrorNumbers(t *testing.T) {
 	for _, c := range []struct {
 		got  api.Errno
@@ -34,6 +34,8 @@ func TestErrorNumbers(t *testing.T) {
 	}{
 		{api.OK, 0}, {api.ErrOther, 1}, {api.ErrLimits, 2}, {api.ErrHandle, 3},
 		{api.ErrUtf8, 10}, {api.ErrRune, 11}, {api.ErrPlace, 12}, {api.ErrQuote, 13}, {api.ErrWalk, 16},
+		{api.ErrRange, 20}, {api.ErrMany, 21}, {api.ErrOrder, 22}, {api.ErrGrow, 24},
+		{api.ErrBelow, 30}, {api.ErrAbove, 31}, {api.ErrRuns, 32},
 	} {
 		if int(c.got) != c.want {
 			t.Errorf("error %d, want %d", c.got, c.want)
