@@ -34,9 +34,9 @@ func TestErrorNumbers(t *testing.T) {
 	}{
 		{api.OK, 0}, {api.ErrOther, 1}, {api.ErrLimits, 2}, {api.ErrHandle, 3},
 		{api.ErrUtf8, 10}, {api.ErrRune, 11}, {api.ErrPlace, 12}, {api.ErrQuote, 13}, {api.ErrLong, 14}, {api.ErrEmpty, 15}, {api.ErrWalk, 16},
-		{api.ErrRange, 20}, {api.ErrMany, 21}, {api.ErrOrder, 22}, {api.ErrGrow, 24},
+		{api.ErrRange, 20}, {api.ErrMany, 21}, {api.ErrOrder, 22}, {api.ErrInside, 23}, {api.ErrGrow, 24},
 		{api.ErrBelow, 30}, {api.ErrAbove, 31}, {api.ErrRuns, 32},
-		{api.ErrKind, 40}, {api.ErrID, 41}, {api.ErrExtra, 42}, {api.ErrNone, 43}, {api.ErrSyntax, 44}, {api.ErrTarget, 63},
+		{api.ErrKind, 40}, {api.ErrID, 41}, {api.ErrExtra, 42}, {api.ErrNone, 43}, {api.ErrSyntax, 44}, {api.ErrClash, 50}, {api.ErrTarget, 63},
 	} {
 		if int(c.got) != c.want {
 			t.Errorf("error %d, want %d", c.got, c.want)
