@@ -2,6 +2,7 @@ package xform_test
 
 import (
 	"fmt"
+	"math"
 	"slices"
 	"strings"
 	"testing"
@@ -280,6 +281,10 @@ func wrongOps(id api.ID) []wrong {
 		{hide(id, 0, 2, 2, 3), api.ErrOrder},
 		{show(id, teeth(api.MaxRanges+1)...), api.ErrMany},
 		{status(id, none, true), api.ErrTarget},
+		{ins(id, math.MinInt, "a"), api.ErrPlace},
+		{ins(id, math.MaxInt, "a"), api.ErrPlace},
+		{hide(id, math.MinInt, math.MaxInt), api.ErrRange},
+		{status(api.ID{math.MaxInt, math.MinInt}, id, true), api.ErrID},
 		{status(api.ID{4, 4}, api.ID{4, 4}, true), api.ErrTarget},
 	}
 }
