@@ -36,7 +36,8 @@ func TestErrorNumbers(t *testing.T) {
 		{api.ErrUtf8, 10}, {api.ErrRune, 11}, {api.ErrPlace, 12}, {api.ErrQuote, 13}, {api.ErrLong, 14}, {api.ErrEmpty, 15}, {api.ErrWalk, 16},
 		{api.ErrRange, 20}, {api.ErrMany, 21}, {api.ErrOrder, 22}, {api.ErrInside, 23}, {api.ErrGrow, 24},
 		{api.ErrBelow, 30}, {api.ErrAbove, 31}, {api.ErrRuns, 32},
-		{api.ErrKind, 40}, {api.ErrID, 41}, {api.ErrExtra, 42}, {api.ErrNone, 43}, {api.ErrSyntax, 44}, {api.ErrClash, 50}, {api.ErrTarget, 63},
+		{api.ErrKind, 40}, {api.ErrID, 41}, {api.ErrExtra, 42}, {api.ErrNone, 43}, {api.ErrSyntax, 44}, {api.ErrClash, 50},
+		{api.ErrUnknown, 60}, {api.ErrTwice, 61}, {api.ErrTurned, 62}, {api.ErrTarget, 63},
 	} {
 		if int(c.got) != c.want {
 			t.Errorf("error %d, want %d", c.got, c.want)
