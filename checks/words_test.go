@@ -39,6 +39,7 @@ func TestErrorNumbers(t *testing.T) {
 		{api.ErrKind, 40}, {api.ErrID, 41}, {api.ErrExtra, 42}, {api.ErrNone, 43}, {api.ErrSyntax, 44}, {api.ErrClash, 50},
 		{api.ErrUnknown, 60}, {api.ErrTwice, 61}, {api.ErrTurned, 62}, {api.ErrTarget, 63},
 		{api.ErrStack, 70}, {api.ErrOps, 80}, {api.ErrCells, 81}, {api.ErrUser, 82},
+		{api.ErrShort, 90}, {api.ErrMark, 91}, {api.ErrBig, 92}, {api.ErrSum, 93}, {api.ErrTail, 94},
 	} {
 		if int(c.got) != c.want {
 			t.Errorf("error %d, want %d", c.got, c.want)
