@@ -40,10 +40,21 @@ func TestErrorNumbers(t *testing.T) {
 		{api.ErrUnknown, 60}, {api.ErrTwice, 61}, {api.ErrTurned, 62}, {api.ErrTarget, 63},
 		{api.ErrStack, 70}, {api.ErrOps, 80}, {api.ErrCells, 81}, {api.ErrUser, 82},
 		{api.ErrShort, 90}, {api.ErrMark, 91}, {api.ErrBig, 92}, {api.ErrSum, 93}, {api.ErrTail, 94},
+		{api.ErrCode, 100}, {api.ErrNumber, 101}, {api.ErrCut, 102}, {api.ErrRest, 103}, {api.ErrField, 104},
 	} {
 		if int(c.got) != c.want {
 			t.Errorf("error %d, want %d", c.got, c.want)
 		}
+	}
+}
+
+// Chapters 4 and 10: the numbers of kinds and codes, which are written as they are.
+func TestKindsAndCodes(t *testing.T) {
+	if kinds := [4]api.Kind{api.Ins, api.Hide, api.Show, api.Status}; kinds != [4]api.Kind{1, 2, 3, 4} {
+		t.Errorf("kinds %v", kinds)
+	}
+	if codes := [4]api.MsgCode{api.Hello, api.Submit, api.Ack, api.Cast}; codes != [4]api.MsgCode{1, 2, 3, 4} {
+		t.Errorf("codes %v", codes)
 	}
 }
 
