@@ -84,17 +84,20 @@ func (w *writer) write() {
 	}
 }
 
-// A crash in each call that changes the disk, with every number of bytes that may stay; then Open, more work, and a second crash.
+// A crash in each call that changes the disk, with every number of bytes that may stay (never more than 63 are loose); then Open, more work, and a second crash.
 func TestP12_9EveryCrash(t *testing.T) {
 	for _, limit := range []int{wide, 60, 100, 120} {
 		for n := 1; ; n++ {
 			crashed := false
-			for keep := 0; keep <= 60; keep++ {
+			for keep := 0; keep <= 70; keep++ {
 				w := &writer{t: t, d: made(t, limit)}
 				w.open()
 				w.d.Arm(n, keep)
 				w.write()
 				crashed = w.d.Down()
+				if loose := len(run(w.list[w.durable:]...)) + len(run(w.met...)); loose > 70 {
+					t.Fatalf("%d bytes were loose: more than are tried", loose)
+				}
 				if !crashed {
 					break
 				}

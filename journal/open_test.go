@@ -157,7 +157,7 @@ func TestP12_3NoRoom(t *testing.T) {
 	mustOpen(t, d, 0, "a")
 }
 
-// A crash in each changing call of Open, with every number of bytes that may stay.
+// A crash in each changing call of Open, at every length of the file, with some of the numbers of durable bytes and of bytes that stay (0 and the next few among them).
 func TestP12_10Crash(t *testing.T) {
 	list := []string{"", "abc", "\xc7\x9d", "last"}
 	whole := run(list...)
