@@ -44,6 +44,7 @@ func TestErrorNumbers(t *testing.T) {
 		{api.ErrDown, 110}, {api.ErrFull, 111}, {api.ErrFile, 112}, {api.ErrName, 113},
 		{api.ErrClosed, 120}, {api.ErrIndex, 121}, {api.ErrOld, 130}, {api.ErrDouble, 131}, {api.ErrFar, 132},
 		{api.ErrStopped, 140}, {api.ErrBase, 141}, {api.ErrSeq, 142}, {api.ErrStale, 143}, {api.ErrClient, 144}, {api.ErrTurn, 150},
+		{api.ErrPacket, 160}, {api.ErrFlight, 161}, {api.ErrSpoilt, 162}, {api.ErrNode, 170},
 	} {
 		if int(c.got) != c.want {
 			t.Errorf("error %d, want %d", c.got, c.want)
