@@ -44,7 +44,8 @@ func TestErrorNumbers(t *testing.T) {
 		{api.ErrDown, 110}, {api.ErrFull, 111}, {api.ErrFile, 112}, {api.ErrName, 113},
 		{api.ErrClosed, 120}, {api.ErrIndex, 121}, {api.ErrOld, 130}, {api.ErrDouble, 131}, {api.ErrFar, 132},
 		{api.ErrStopped, 140}, {api.ErrBase, 141}, {api.ErrSeq, 142}, {api.ErrStale, 143}, {api.ErrClient, 144}, {api.ErrTurn, 150},
-		{api.ErrPacket, 160}, {api.ErrFlight, 161}, {api.ErrSpoilt, 162}, {api.ErrNode, 170},
+		{api.ErrPacket, 160}, {api.ErrFlight, 161}, {api.ErrSpoilt, 162},
+		{api.ErrNode, 170}, {api.ErrJoined, 171}, {api.ErrNotJoined, 172}, {api.ErrUp, 173}, {api.ErrForged, 174}, {api.ErrStep, 175}, {api.ErrSteps, 243},
 	} {
 		if int(c.got) != c.want {
 			t.Errorf("error %d, want %d", c.got, c.want)
@@ -59,6 +60,18 @@ func TestKindsAndCodes(t *testing.T) {
 	}
 	if codes := [4]api.MsgCode{api.Hello, api.Submit, api.Ack, api.Cast}; codes != [4]api.MsgCode{1, 2, 3, 4} {
 		t.Errorf("codes %v", codes)
+	}
+}
+
+// Chapter 17: the kinds of a world's steps.
+func TestStepKinds(t *testing.T) {
+	for i, kind := range []api.StepKind{
+		api.StepJoin, api.StepInsert, api.StepDelete, api.StepMove, api.StepUndo, api.StepRedo, api.StepUndoOp, api.StepRedoOp, api.StepTick,
+		api.StepDeliver, api.StepDrop, api.StepCopy, api.StepSpoil, api.StepJunk, api.StepArm, api.StepBoot, api.StepView, api.StepSettle,
+	} {
+		if int(kind) != i+1 {
+			t.Errorf("kind %d, want %d", kind, i+1)
+		}
 	}
 }
 
