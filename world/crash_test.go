@@ -145,54 +145,60 @@ func (h *watch) work(rounds int) {
 	}
 }
 
+// crashAt: the day's work, given up where the disk's n-th changing call crashes, of whose loose bytes so many stay.
+func crashAt(t *testing.T, n, keep int) *watch {
+	t.Helper()
+	h := watching(pairAt(t))
+	h.step(arm(n, keep))
+	h.work(16)
+	return h
+}
+
+// journalSize: the bytes of the journal.
+func (h *watch) journalSize() int {
+	size := 0
+	for _, f := range h.w.Files() {
+		size += len(f.Bytes)
+	}
+	return size
+}
+
 // P7: a crash in each call that changes the disk, with every number of bytes that may stay; then Boots that crash too; the work goes on, and all is there once.
 func TestP7EveryCrash(t *testing.T) {
-	const most = 60 // more bytes are seldom loose; further below some numbers above it
 	for n := 1; ; n++ {
-		crashed := false
-		for _, keep := range append(upTo(most), 100, 1000, far[5]) {
-			h := watching(pairAt(t))
-			h.step(arm(n, keep))
-			h.work(16)
-			if crashed = !h.p.runs; !crashed {
-				break
+		whole := crashAt(t, n, far[5])
+		if whole.p.runs {
+			if n < 15 {
+				t.Fatalf("only %d calls change the disk", n)
 			}
+			return
+		}
+		loose := whole.journalSize() - crashAt(t, n, 0).journalSize()
+		if loose == 0 {
+			t.Fatalf("P7: nothing was loose at call %d", n)
+		}
+		for keep := range loose + 2 {
+			h := crashAt(t, n, keep)
 			written := len(h.order)
 			if h.met != (api.ID{}) {
 				written++
 			}
 			h.step(boot(1, keep/2))
-			if h.p.runs { // armed all the same: its next call crashes
-				h.step(arm(0, 0))
-			} else {
+			if !h.p.runs {
 				h.step(boot(2, 0))
 				h.step(boot(0, 0))
 			}
-			if got := len(h.w.Order()); keep == far[5] && got != written {
-				t.Fatalf("P7: %d of %d commands are left, though all bytes stay", got, written)
+			h.step(arm(0, 0)) // a Boot that did not come to its crash has left the disk armed
+			if got := len(h.w.Order()); keep >= loose && got != written || keep < loose && got >= written {
+				t.Fatalf("P7: %d of %d commands are left where %d of %d bytes stay", got, written, keep, loose)
 			}
-			h.step(arm(0, 0))
 			h.work(4)
 			if a := h.step(settle()); a.Code != api.OK {
 				t.Fatalf("P8: %s: %+v", h.script(), a)
 			}
 			h.allThere()
 		}
-		if !crashed {
-			if n < 15 {
-				t.Fatalf("only %d calls change the disk", n)
-			}
-			return
-		}
 	}
-}
-
-func upTo(n int) []int {
-	var out []int
-	for k := range n + 1 {
-		out = append(out, k)
-	}
-	return out
 }
 
 // allThere: of a world that has settled: every command that any client has made stands in the order once.
