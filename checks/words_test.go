@@ -45,7 +45,7 @@ func TestErrorNumbers(t *testing.T) {
 		{api.ErrClosed, 120}, {api.ErrIndex, 121}, {api.ErrOld, 130}, {api.ErrDouble, 131}, {api.ErrFar, 132},
 		{api.ErrStopped, 140}, {api.ErrBase, 141}, {api.ErrSeq, 142}, {api.ErrStale, 143}, {api.ErrClient, 144}, {api.ErrTurn, 150},
 		{api.ErrPacket, 160}, {api.ErrFlight, 161}, {api.ErrSpoilt, 162},
-		{api.ErrNode, 170}, {api.ErrJoined, 171}, {api.ErrNotJoined, 172}, {api.ErrUp, 173}, {api.ErrForged, 174}, {api.ErrStep, 175}, {api.ErrSteps, 243},
+		{api.ErrNode, 170}, {api.ErrJoined, 171}, {api.ErrNotJoined, 172}, {api.ErrUp, 173}, {api.ErrForged, 174}, {api.ErrStep, 175}, {api.ErrSteps, 243}, {api.ErrCols, 190},
 	} {
 		if int(c.got) != c.want {
 			t.Errorf("error %d, want %d", c.got, c.want)
