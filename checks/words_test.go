@@ -46,6 +46,7 @@ func TestErrorNumbers(t *testing.T) {
 		{api.ErrStopped, 140}, {api.ErrBase, 141}, {api.ErrSeq, 142}, {api.ErrStale, 143}, {api.ErrClient, 144}, {api.ErrTurn, 150},
 		{api.ErrPacket, 160}, {api.ErrFlight, 161}, {api.ErrSpoilt, 162},
 		{api.ErrNode, 170}, {api.ErrJoined, 171}, {api.ErrNotJoined, 172}, {api.ErrUp, 173}, {api.ErrForged, 174}, {api.ErrStep, 175}, {api.ErrSteps, 243}, {api.ErrCols, 190},
+		{api.ErrTitle, 200}, {api.ErrThere, 201}, {api.ErrMarks, 202},
 	} {
 		if int(c.got) != c.want {
 			t.Errorf("error %d, want %d", c.got, c.want)
