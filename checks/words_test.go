@@ -48,6 +48,7 @@ func TestErrorNumbers(t *testing.T) {
 		{api.ErrNode, 170}, {api.ErrJoined, 171}, {api.ErrNotJoined, 172}, {api.ErrUp, 173}, {api.ErrForged, 174}, {api.ErrStep, 175}, {api.ErrSteps, 243}, {api.ErrCols, 190},
 		{api.ErrTitle, 200}, {api.ErrThere, 201}, {api.ErrMarks, 202},
 		{api.ErrPattern, 210}, {api.ErrRepeat, 211},
+		{api.ErrFormat, 220}, {api.ErrVersion, 221}, {api.ErrCount, 222}, {api.ErrApart, 223},
 	} {
 		if int(c.got) != c.want {
 			t.Errorf("error %d, want %d", c.got, c.want)
